@@ -1,0 +1,1 @@
+"""Room shared by kinds, prices by quantity."""
