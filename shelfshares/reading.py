@@ -1,7 +1,6 @@
 """One list of whole numbers, taken apart into calls."""
 
-# How many whole numbers stand behind each call's number. The calls that are
-# not built yet are here too: they are answered before a begin already.
+# How many whole numbers stand behind the number of each call that has no row.
 WHOLE_NUMBERS = {
     0: 1, 2: 1, 3: 1, 4: 0, 5: 1, 6: 1, 7: 0, 9: 2, 10: 1,
     13: 1, 14: 2, 15: 2, 16: 1, 17: 3, 18: 2, 19: 0, 20: 0,

@@ -63,8 +63,3 @@ def is_sharing(kinds, sharing):
     if len(sharing) != len(kinds):
         return False
     return all([pieces <= len(worths) for worths, pieces in zip(kinds, sharing)])
-
-
-def kinds_but(kinds, k):
-    """The kinds without one; those behind it have one number less."""
-    return kinds[:k] + kinds[k + 1:]

@@ -1,7 +1,8 @@
 """The calls about places and kinds: each takes the store and its numbers, and gives back what is answered."""
 
 from shelfshares.refusals import NONE_SUCH, OUT_OF_RANGE, TOO_MANY
-from shelfshares.sharing import is_sharing, kinds_but, order_told, price_of_place, sharing_told
+from shelfshares.rows import all_but, none_above_the_one_before
+from shelfshares.sharing import is_sharing, order_told, price_of_place, sharing_told
 from shelfshares.sharing import worth_of_one_more, worth_together, worth_told
 
 MOST_PLACES = 20
@@ -16,7 +17,7 @@ def are_worths(worths):
         return False
     if max(worths) > MOST_WORTH:
         return False
-    return all([after <= before for before, after in zip(worths, worths[1:])])
+    return none_above_the_one_before(worths)
 
 
 def begin(store, numbers):
@@ -26,14 +27,23 @@ def begin(store, numbers):
     store.begun = True
     store.places = places
     store.kinds = []
+    store.sellers = []
     return [0]
 
 
+def refusal_of_kind(kinds, worths):
+    """Why there can't be such a kind more; None, if there can."""
+    if not are_worths(worths):
+        return OUT_OF_RANGE
+    if len(kinds) == MOST_KINDS:
+        return TOO_MANY
+    return None
+
+
 def add_kind(store, numbers):
-    if not are_worths(numbers):
-        return [OUT_OF_RANGE]
-    if len(store.kinds) == MOST_KINDS:
-        return [TOO_MANY]
+    refusal = refusal_of_kind(store.kinds, numbers)
+    if refusal is not None:
+        return [refusal]
     store.kinds.append(numbers)
     return [len(store.kinds) - 1]
 
@@ -42,7 +52,7 @@ def drop_kind(store, numbers):
     k = numbers[0]
     if k >= len(store.kinds):
         return [NONE_SUCH]
-    store.kinds = kinds_but(store.kinds, k)
+    store.kinds = all_but(store.kinds, k)
     return [len(store.kinds)]
 
 
@@ -107,8 +117,15 @@ def tell_without(store, numbers):
     k = numbers[0]
     if k >= len(store.kinds):
         return [NONE_SUCH]
-    left = worth_told(kinds_but(store.kinds, k), store.places)
+    left = worth_told(all_but(store.kinds, k), store.places)
     return [left, worth_told(store.kinds, store.places) - left]
+
+
+def tell_would(store, numbers):
+    refusal = refusal_of_kind(store.kinds, numbers)
+    if refusal is not None:
+        return [refusal]
+    return worth_and_sharing(store.kinds + [numbers], store.places)
 
 
 SHELF_CALLS = {
@@ -123,4 +140,5 @@ SHELF_CALLS = {
     8: tell_value,
     9: tell_worth,
     10: tell_without,
+    11: tell_would,
 }

@@ -1,7 +1,9 @@
 """What the calls on one new object answer."""
 
+from shelfshares.overview import OVERVIEW_CALLS
 from shelfshares.reading import calls_in
 from shelfshares.refusals import NOT_BEGUN
+from shelfshares.sellers import SELLER_CALLS
 from shelfshares.shelf import SHELF_CALLS
 from shelfshares.store import Store
 
@@ -14,8 +16,9 @@ def answer_to(store, number, numbers):
         return [NOT_BEGUN]
     if number in SHELF_CALLS:
         return SHELF_CALLS[number](store, numbers)
-    # Better no answer than a wrong one.
-    raise NotImplementedError(f"call {number} is not built yet")
+    if number in SELLER_CALLS:
+        return SELLER_CALLS[number](store, numbers)
+    return OVERVIEW_CALLS[number](store, numbers)
 
 
 def answers(calls):

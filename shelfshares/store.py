@@ -8,3 +8,4 @@ class Store:
         self.begun = False
         self.places = 0
         self.kinds = []
+        self.sellers = []

@@ -50,8 +50,8 @@ def ask_behind(before, *calls):
 
 
 def whole_state():
-    """Calls whose answers together show all that is kept of places and kinds."""
-    calls = [("best",), ("steps",), ("at", 20)]
+    """Calls whose answers together show all that is kept."""
+    calls = [("state",), ("sums",), ("best",), ("steps",), ("at", 20)]
     for k in range(5):
         for n in range(9):
             calls.append(("worth", k, n))
